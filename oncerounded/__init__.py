@@ -1,0 +1,1 @@
+"""Complex numbers of halves, singles and doubles, each part rounded once."""

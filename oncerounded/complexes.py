@@ -1,0 +1,70 @@
+"""The calls. Each answers one list: 0 and what it tells, or a refusal."""
+
+from oncerounded.floats import are_bits
+from oncerounded.floats import layout_of
+from oncerounded.products import product
+from oncerounded.quotients import quotient
+from oncerounded.roots import root
+from oncerounded.rounding import told
+from oncerounded.steps import add_step
+from oncerounded.steps import sub_step
+from oncerounded.turns import conjugate
+from oncerounded.turns import projection
+from oncerounded.turns import times_i
+from oncerounded.turns import times_minus_i
+
+REFUSED = -1
+
+
+def is_known(number, how_many):
+    return 0 <= number < how_many
+
+
+def added(layout, r, x, y):
+    return told(add_step(layout, r, x[0], y[0]), add_step(layout, r, x[1], y[1]), 0)
+
+
+def subtracted(layout, r, x, y):
+    return told(sub_step(layout, r, x[0], y[0]), sub_step(layout, r, x[1], y[1]), 0)
+
+
+def result_of_two(layout, operation, r, x, y):
+    if operation == 0:
+        return added(layout, r, x, y)
+    if operation == 1:
+        return subtracted(layout, r, x, y)
+    if operation == 2:
+        return product(layout, r, x, y)
+    return quotient(layout, r, x, y)
+
+
+def result_of_one(layout, operation, r, x):
+    if operation == 0:
+        return root(layout, r, x)
+    if operation == 1:
+        return conjugate(layout, x)
+    if operation == 2:
+        return projection(layout, x)
+    if operation == 3:
+        return times_i(layout, x)
+    return times_minus_i(layout, x)
+
+
+def two(f, operation, r, x, y):
+    """operation 0 add, 1 sub, 2 mul, 3 div: [0, re, im, flags] or [-1]."""
+    if not is_known(f, 3) or not is_known(operation, 4) or not is_known(r, 4):
+        return [REFUSED]
+    layout = layout_of(f)
+    if not are_bits(layout, x + y):
+        return [REFUSED]
+    return [0] + result_of_two(layout, operation, r, x, y)
+
+
+def one(f, operation, r, x):
+    """operation 0 sqrt, 1 conj, 2 proj, 3 times i, 4 times -i: [0, re, im, flags] or [-1]."""
+    if not is_known(f, 3) or not is_known(operation, 5) or not is_known(r, 4):
+        return [REFUSED]
+    layout = layout_of(f)
+    if not are_bits(layout, x):
+        return [REFUSED]
+    return [0] + result_of_one(layout, operation, r, x)

@@ -1,0 +1,92 @@
+"""The square root of a complex number."""
+
+from oncerounded.exact import common_power
+from oncerounded.exact import in_units
+from oncerounded.exact import term_of
+from oncerounded.floats import is_infinite
+from oncerounded.floats import is_no_number
+from oncerounded.floats import loud_flag
+from oncerounded.floats import made_quiet
+from oncerounded.floats import sign_of
+from oncerounded.floats import small_flag
+from oncerounded.floats import with_sign_of
+from oncerounded.kinds import zero_number
+from oncerounded.rounding import Part
+from oncerounded.rounding import rounded
+from oncerounded.rounding import signed
+from oncerounded.rounding import stand_in
+from oncerounded.rounding import told
+from oncerounded.steps import what_comes
+
+
+def whole_root(number):
+    """The greatest whole number whose square isn't above the number."""
+    if number == 0:
+        return 0
+    # From above, each guess is lower until the root is reached.
+    guess = 1 << ((number.bit_length() + 1) // 2)
+    better = (guess + number // guess) // 2
+    while better < guess:
+        guess = better
+        better = (guess + number // guess) // 2
+    return guess
+
+
+def half_root(layout, sign, square, addend, power):
+    """The root of (the root of the square, and the addend) / 2, which isn't 0, times two to the power."""
+    places = layout.digits + 2
+    while True:
+        # Whole roots of whole numbers lose nothing but what stand_in tells: no difference is rounded.
+        inner = square << (4 * places - 2)
+        size = whole_root(inner)
+        outer = size + addend * (1 << (2 * places - 1))
+        found = whole_root(outer)
+        if found.bit_length() > layout.digits:
+            is_whole = size * size == inner and found * found == outer
+            return stand_in(sign, found, power - places, is_whole)
+        # A small part beside a great one: so many digits more are needed.
+        places = 2 * places
+
+
+def half_root_part(layout, r, sign, square, addend, power):
+    # Only a whole root of the square can be minus the addend.
+    if addend <= 0 and addend * addend == square:
+        return Part(signed(layout, sign, 0), 0)
+    return rounded(layout, r, half_root(layout, sign, square, addend, power))
+
+
+def finite_root(layout, r, x):
+    terms = [term_of(layout, x[0]), term_of(layout, x[1])]
+    power = common_power(terms)
+    # An even power, so that its root is a power of two as well.
+    power = power - power % 2
+    a = in_units(terms[0], power)
+    b = in_units(terms[1], power)
+    square = a * a + b * b
+    re = half_root_part(layout, r, 0, square, a, power // 2)
+    im = half_root_part(layout, r, sign_of(layout, x[1]), square, -a, power // 2)
+    return told(re, im, small_flag(layout, x))
+
+
+def root_of_infinite_real(layout, x):
+    a = x[0]
+    b = x[1]
+    flags = loud_flag(layout, x)
+    if sign_of(layout, a) == 0:
+        im = made_quiet(layout, b) if is_no_number(layout, b) else with_sign_of(layout, 0, b)
+        return [a, im, flags]
+    re = made_quiet(layout, b) if is_no_number(layout, b) else 0
+    return [re, with_sign_of(layout, layout.infinite, b), flags]
+
+
+def root(layout, r, x):
+    if zero_number(layout, x):
+        return [0, x[1], 0]
+    if is_infinite(layout, x[1]):
+        return [layout.infinite, x[1], loud_flag(layout, x)]
+    if is_infinite(layout, x[0]):
+        return root_of_infinite_real(layout, x)
+    if is_no_number(layout, x[0]) or is_no_number(layout, x[1]):
+        part = what_comes(layout, x)
+        return told(part, part, 0)
+    return finite_root(layout, r, x)
