@@ -50,8 +50,8 @@ def result_of_one(layout, operation, r, x):
     return times_minus_i(layout, x)
 
 
+# operation 0 add, 1 sub, 2 mul, 3 div: [0, re, im, flags] or [-1].
 def two(f, operation, r, x, y):
-    """operation 0 add, 1 sub, 2 mul, 3 div: [0, re, im, flags] or [-1]."""
     if not is_known(f, 3) or not is_known(operation, 4) or not is_known(r, 4):
         return [REFUSED]
     layout = layout_of(f)
@@ -60,8 +60,8 @@ def two(f, operation, r, x, y):
     return [0] + result_of_two(layout, operation, r, x, y)
 
 
+# operation 0 sqrt, 1 conj, 2 proj, 3 times i, 4 times -i: [0, re, im, flags] or [-1].
 def one(f, operation, r, x):
-    """operation 0 sqrt, 1 conj, 2 proj, 3 times i, 4 times -i: [0, re, im, flags] or [-1]."""
     if not is_known(f, 3) or not is_known(operation, 5) or not is_known(r, 4):
         return [REFUSED]
     layout = layout_of(f)

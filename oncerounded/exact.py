@@ -4,17 +4,16 @@ from oncerounded.floats import sign_of
 from oncerounded.floats import without_sign
 
 
+# size times two to the power, minus that if the sign is 1.
 class Term:
-    """size times two to the power, minus that if the sign is 1."""
-
     def __init__(self, sign, size, power):
         self.sign = sign
         self.size = size
         self.power = power
 
 
+# The exact value of a finite float.
 def term_of(layout, bits):
-    """The exact value of a finite float."""
     unsigned = without_sign(layout, bits)
     sign = sign_of(layout, bits)
     exponent = unsigned // layout.smallest_normal
@@ -37,16 +36,16 @@ def common_power(terms):
     return min([term.power for term in terms if term.size != 0], default=0)
 
 
+# The term as a whole number of units of two to that power, which isn't above its own.
 def in_units(term, power):
-    """The term as a whole number of units of two to that power, which isn't above its own."""
     if term.size == 0:
         return 0
     size = term.size << (term.power - power)
     return -size if term.sign == 1 else size
 
 
+# The exact sum; the sign of a sum that's zero has no meaning yet.
 def total_of(terms):
-    """The exact sum; the sign of a sum that's zero has no meaning yet."""
     power = common_power(terms)
     total = sum([in_units(term, power) for term in terms])
     return Term(1 if total < 0 else 0, abs(total), power)

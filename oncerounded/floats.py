@@ -12,9 +12,8 @@ INEXACT = 32
 UP = 128
 
 
+# One format: its digits and exponents, and the bits that floats are put together of.
 class Layout:
-    """One format: its digits and exponents, and the bits that floats are put together of."""
-
     def __init__(self, width, digits, emin, emax):
         self.limit = 1 << width
         self.digits = digits

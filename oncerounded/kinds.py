@@ -24,11 +24,11 @@ def zero_number(layout, x):
     return is_zero(layout, x[0]) and is_zero(layout, x[1])
 
 
+# Infinite parts become 1, others 0, with their signs.
 def direction_of(layout, x):
-    """Infinite parts become 1, others 0, with their signs."""
     return [with_sign_of(layout, layout.unity if is_infinite(layout, bits) else 0, bits) for bits in x]
 
 
+# Parts that are no numbers become 0 with their signs.
 def no_numbers_as_zeros(layout, x):
-    """Parts that are no numbers become 0 with their signs."""
     return [with_sign_of(layout, 0, bits) if is_no_number(layout, bits) else bits for bits in x]

@@ -31,8 +31,8 @@ def finite_product(layout, r, x, y):
     return told(re, im, small_flag(layout, x + y))
 
 
+# The infinite product whose steps came to no numbers alone: its direction times infinite.
 def recovered_product(layout, r, x, y):
-    """The infinite product whose steps came to no numbers alone: its direction times infinite."""
     u = list(x)
     v = list(y)
     if infinite_number(layout, u):
@@ -49,8 +49,8 @@ def recovered_product(layout, r, x, y):
     return [times_without_flags(layout, r, layout.infinite, bits) for bits in [re, im]]
 
 
+# Whether the steps' result hides that something was infinite.
 def is_lost(layout, x, y, products, re, im):
-    """Whether the steps' result hides that something was infinite."""
     if not is_no_number(layout, re.bits) or not is_no_number(layout, im.bits):
         return False
     if infinite_number(layout, x) or infinite_number(layout, y):

@@ -22,8 +22,8 @@ from oncerounded.steps import times_without_flags
 from oncerounded.steps import what_comes
 
 
+# The sum of the terms by the value below, which is above 0.
 def rounded_quotient(layout, r, terms, below):
-    """The sum of the terms by the value below, which is above 0."""
     above = total_of(terms)
     if above.size == 0:
         return exact_zero(layout, r, terms)
@@ -59,8 +59,8 @@ def quotient_by_zero(layout, r, x, y):
     return told(re, im, DIVIDED_BY_ZERO if finite_number(layout, x) else 0)
 
 
+# The factor, infinite or 0, times the numerators.
 def quotient_of_directions(layout, r, factor, x, y):
-    """The factor, infinite or 0, times the numerators."""
     re = sum_of_products(layout, r, x[0], y[0], x[1], y[1])
     im = difference_of_products(layout, r, x[1], y[0], x[0], y[1])
     return told(times_without_flags(layout, r, factor, re), times_without_flags(layout, r, factor, im), 0)

@@ -19,8 +19,8 @@ from oncerounded.rounding import told
 from oncerounded.steps import what_comes
 
 
+# The greatest whole number whose square isn't above the number.
 def whole_root(number):
-    """The greatest whole number whose square isn't above the number."""
     if number == 0:
         return 0
     # From above, each guess is lower until the root is reached.
@@ -32,11 +32,11 @@ def whole_root(number):
     return guess
 
 
+# The root of (m + addend) / 2, which isn't 0, where m is the root of the square; times two to the power.
 def half_root(layout, sign, square, addend, power):
-    """The root of (the root of the square, and the addend) / 2, which isn't 0, times two to the power."""
     places = layout.digits + 2
     while True:
-        # Whole roots of whole numbers lose nothing but what stand_in tells: no difference is rounded.
+        # m isn't rounded before the addend comes to it: what both roots leave over is all that is_whole asks.
         inner = square << (4 * places - 2)
         size = whole_root(inner)
         outer = size + addend * (1 << (2 * places - 1))
@@ -44,12 +44,12 @@ def half_root(layout, sign, square, addend, power):
         if found.bit_length() > layout.digits:
             is_whole = size * size == inner and found * found == outer
             return stand_in(sign, found, power - places, is_whole)
-        # A small part beside a great one: so many digits more are needed.
+        # A small part beside a great one needs more digits of m before it shows its own.
         places = 2 * places
 
 
 def half_root_part(layout, r, sign, square, addend, power):
-    # Only a whole root of the square can be minus the addend.
+    # Exactly 0 has no digits to look for.
     if addend <= 0 and addend * addend == square:
         return Part(signed(layout, sign, 0), 0)
     return rounded(layout, r, half_root(layout, sign, square, addend, power))

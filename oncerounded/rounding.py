@@ -13,24 +13,22 @@ UPWARD = 2
 CUT = 3
 
 
+# A float that's told, and the flags it came with.
 class Part:
-    """A float that's told, and the flags it came with."""
-
     def __init__(self, bits, flags):
         self.bits = bits
         self.flags = flags
 
 
+# A whole multiple that stands for an exact size; side is 1 if it's above it, -1 below, 0 the same.
 class Multiple:
-    """A whole multiple that stands for an exact size; side is 1 if it's above it, -1 below, 0 the same."""
-
     def __init__(self, times, side):
         self.times = times
         self.side = side
 
 
+# What a call answers behind its 0.
 def told(re, im, more_flags):
-    """What a call answers behind its 0."""
     return [re.bits, im.bits, re.flags | im.flags | more_flags]
 
 
@@ -38,8 +36,8 @@ def signed(layout, sign, unsigned):
     return unsigned | layout.sign_bit if sign == 1 else unsigned
 
 
+# Whether the size grows, when lost of a whole one is to be cut off behind kept.
 def goes_away(r, sign, kept, lost, whole):
-    """Whether the size grows, when lost of a whole one is to be cut off behind kept."""
     if r == NEAR:
         return 2 * lost > whole or (2 * lost == whole and kept % 2 == 1)
     if r == DOWN:
@@ -49,8 +47,8 @@ def goes_away(r, sign, kept, lost, whole):
     return False
 
 
+# The exact value's size as a whole multiple of two to the power.
 def to_multiple(r, exact, power):
-    """The exact value's size as a whole multiple of two to the power."""
     shift = power - exact.power
     if shift <= 0:
         return Multiple(exact.size << -shift, 0)
@@ -79,8 +77,8 @@ def packed(layout, sign, multiple, power, flags_if_inexact):
     return Part(signed(layout, sign, unsigned), flags)
 
 
+# An exact value that isn't 0, rounded to all the format's digits.
 def rounded(layout, r, exact):
-    """An exact value that isn't 0, rounded to all the format's digits."""
     power = exact.power + exact.size.bit_length() - layout.digits
     multiple = to_multiple(r, exact, power)
     reach = multiple.times.bit_length() + power
@@ -93,14 +91,14 @@ def rounded(layout, r, exact):
     return packed(layout, exact.sign, again, layout.lowest, UNDERFLOW | INEXACT)
 
 
+# A value that rounds as one does which lies within size and size + 1, if size has more digits than
+# the format: no float and no middle of two lies between, so one more digit tells all that's asked.
 def stand_in(sign, size, power, is_whole):
-    """A value that rounds as one does which lies within size and size + 1, if size has more digits than
-    the format: no float and no middle of two lies between, so one more digit tells all that's asked."""
     return Term(sign, 2 * size + (0 if is_whole else 1), power - 1)
 
 
+# The zero that terms come to; where their signs are alike they can only be zeros themselves.
 def exact_zero(layout, r, terms):
-    """The zero that terms come to; where their signs are alike they can only be zeros themselves."""
     minuses = sum([term.sign for term in terms])
     if minuses == 0:
         return Part(0, 0)

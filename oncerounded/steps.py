@@ -20,8 +20,8 @@ def has_no_number(layout, operands):
     return any([is_no_number(layout, bits) for bits in operands])
 
 
+# The no number that comes of several floats, one of which is none.
 def what_comes(layout, operands):
-    """The no number that comes of several floats, one of which is none."""
     first = [bits for bits in operands if is_no_number(layout, bits)][0]
     return Part(made_quiet(layout, first), loud_flag(layout, operands))
 
@@ -66,15 +66,15 @@ def mul_step(layout, r, a, b):
     return total_step(layout, r, [product_of(term_of(layout, a), term_of(layout, b))], came)
 
 
+# a c + b d in steps without flags: the bits alone.
 def sum_of_products(layout, r, a, c, b, d):
-    """a c + b d in steps without flags: the bits alone."""
     left = mul_step(layout, r, a, c).bits
     right = mul_step(layout, r, b, d).bits
     return add_step(layout, r, left, right).bits
 
 
+# a c - b d in steps without flags: the bits alone.
 def difference_of_products(layout, r, a, c, b, d):
-    """a c - b d in steps without flags: the bits alone."""
     left = mul_step(layout, r, a, c).bits
     right = mul_step(layout, r, b, d).bits
     return sub_step(layout, r, left, right).bits

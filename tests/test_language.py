@@ -104,6 +104,8 @@ class Form(unittest.TestCase):
                 if isinstance(node, ast.Assign):
                     self.assertEqual(len(node.targets), 1, (path, node.lineno, "L6"))
                     self.assertNotIsInstance(node.targets[0], (ast.Tuple, ast.List), (path, node.lineno, "L6"))
+                if isinstance(node, ast.Expr) and node not in tree.body:
+                    self.assertIsInstance(node.value, ast.Call, (path, node.lineno, "L6"))
                 if isinstance(node, (ast.For, ast.While)):
                     self.assertEqual(node.orelse, [], (path, node.lineno, "L6"))
                 if isinstance(node, ast.Constant):
