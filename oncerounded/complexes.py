@@ -5,9 +5,10 @@ from oncerounded.floats import layout_of
 from oncerounded.products import product
 from oncerounded.quotients import quotient
 from oncerounded.roots import root
-from oncerounded.rounding import told
-from oncerounded.steps import add_step
-from oncerounded.steps import sub_step
+from oncerounded.sizes import size_of
+from oncerounded.sums import added
+from oncerounded.sums import fused_sum
+from oncerounded.sums import subtracted
 from oncerounded.turns import conjugate
 from oncerounded.turns import projection
 from oncerounded.turns import times_i
@@ -18,14 +19,6 @@ REFUSED = -1
 
 def is_known(number, how_many):
     return 0 <= number < how_many
-
-
-def added(layout, r, x, y):
-    return told(add_step(layout, r, x[0], y[0]), add_step(layout, r, x[1], y[1]), 0)
-
-
-def subtracted(layout, r, x, y):
-    return told(sub_step(layout, r, x[0], y[0]), sub_step(layout, r, x[1], y[1]), 0)
 
 
 def result_of_two(layout, operation, r, x, y):
@@ -68,3 +61,23 @@ def one(f, operation, r, x):
     if not are_bits(layout, x):
         return [REFUSED]
     return [0] + result_of_one(layout, operation, r, x)
+
+
+# operation 0 abs, 1 norm: [0, float, flags] or [-1].
+def real(f, operation, r, x):
+    if not is_known(f, 3) or not is_known(operation, 2) or not is_known(r, 4):
+        return [REFUSED]
+    layout = layout_of(f)
+    if not are_bits(layout, x):
+        return [REFUSED]
+    return [0] + size_of(layout, operation, r, x)
+
+
+# x y + z: [0, re, im, flags] or [-1].
+def fused(f, r, x, y, z):
+    if not is_known(f, 3) or not is_known(r, 4):
+        return [REFUSED]
+    layout = layout_of(f)
+    if not are_bits(layout, x + y + z):
+        return [REFUSED]
+    return [0] + fused_sum(layout, r, x, y, z)

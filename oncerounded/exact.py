@@ -49,3 +49,16 @@ def total_of(terms):
     power = common_power(terms)
     total = sum([in_units(term, power) for term in terms])
     return Term(1 if total < 0 else 0, abs(total), power)
+
+
+# The greatest whole number whose square isn't above the number.
+def whole_root(number):
+    if number == 0:
+        return 0
+    # From above, each guess is lower until the root is reached.
+    guess = 1 << ((number.bit_length() + 1) // 2)
+    better = (guess + number // guess) // 2
+    while better < guess:
+        guess = better
+        better = (guess + number // guess) // 2
+    return guess

@@ -21,13 +21,23 @@ from oncerounded.steps import sum_of_products
 from oncerounded.steps import times_without_flags
 
 
+# The two products that a finite product's real part is the sum of.
+def real_terms(layout, x, y):
+    ac = product_of(term_of(layout, x[0]), term_of(layout, y[0]))
+    bd = product_of(term_of(layout, x[1]), term_of(layout, y[1]))
+    return [ac, opposite(bd)]
+
+
+# The two products that its imaginary part is the sum of.
+def imaginary_terms(layout, x, y):
+    ad = product_of(term_of(layout, x[0]), term_of(layout, y[1]))
+    bc = product_of(term_of(layout, x[1]), term_of(layout, y[0]))
+    return [ad, bc]
+
+
 def finite_product(layout, r, x, y):
-    a = term_of(layout, x[0])
-    b = term_of(layout, x[1])
-    c = term_of(layout, y[0])
-    d = term_of(layout, y[1])
-    re = rounded_total(layout, r, [product_of(a, c), opposite(product_of(b, d))])
-    im = rounded_total(layout, r, [product_of(a, d), product_of(b, c)])
+    re = rounded_total(layout, r, real_terms(layout, x, y))
+    im = rounded_total(layout, r, imaginary_terms(layout, x, y))
     return told(re, im, small_flag(layout, x + y))
 
 

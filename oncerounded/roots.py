@@ -3,6 +3,7 @@
 from oncerounded.exact import common_power
 from oncerounded.exact import in_units
 from oncerounded.exact import term_of
+from oncerounded.exact import whole_root
 from oncerounded.floats import is_infinite
 from oncerounded.floats import is_no_number
 from oncerounded.floats import loud_flag
@@ -17,19 +18,6 @@ from oncerounded.rounding import signed
 from oncerounded.rounding import stand_in
 from oncerounded.rounding import told
 from oncerounded.steps import what_comes
-
-
-# The greatest whole number whose square isn't above the number.
-def whole_root(number):
-    if number == 0:
-        return 0
-    # From above, each guess is lower until the root is reached.
-    guess = 1 << ((number.bit_length() + 1) // 2)
-    better = (guess + number // guess) // 2
-    while better < guess:
-        guess = better
-        better = (guess + number // guess) // 2
-    return guess
 
 
 # The root of (m + addend) / 2, which isn't 0, where m is the root of the square; times two to the power.

@@ -12,6 +12,7 @@ ROUNDINGS = (NEAR, DOWN, UPWARD, CUT)
 FORMATS = (0, 1, 2)
 ADD, SUB, MUL, DIV = range(4)
 SQRT, CONJ, PROJ, TIMES_I, TIMES_MINUS_I = range(5)
+ABS, NORM = range(2)
 INVALID, SMALL, BY_ZERO, OVERFLOW, UNDERFLOW, INEXACT, UP = 1, 2, 4, 8, 16, 32, 128
 
 
@@ -127,25 +128,19 @@ class Rational:
         return self.size // unit
 
 
-class HalfRoot:
-    """The root of (m + a) / 2, where m is the root of square; told by comparisons alone."""
+class Compared:
+    """An exact size that's told by comparisons with fractions alone."""
 
-    def __init__(self, sign, square, a):
-        self.sign, self.square, self.a = sign, square, a
+    def __init__(self, sign):
+        self.sign = sign
         self.found = None
-
-    def compare(self, fraction):
-        rest = 2 * fraction * fraction - self.a
-        if rest < 0:
-            return 1
-        return (self.square > rest * rest) - (self.square < rest * rest)
 
     def is_zero(self):
         return self.compare(Fraction(0)) == 0
 
     def scale(self):
         if self.found is None:
-            low, high = -2048, 1024
+            low, high = -2048, 1032
             while high - low > 1:
                 middle = (low + high) // 2
                 if self.compare(power_of_two(middle)) >= 0:
@@ -164,6 +159,31 @@ class HalfRoot:
             else:
                 high = middle
         return low
+
+
+class HalfRoot(Compared):
+    """The root of (m + a) / 2, where m is the root of square."""
+
+    def __init__(self, sign, square, a):
+        super().__init__(sign)
+        self.square, self.a = square, a
+
+    def compare(self, fraction):
+        rest = 2 * fraction * fraction - self.a
+        if rest < 0:
+            return 1
+        return (self.square > rest * rest) - (self.square < rest * rest)
+
+
+class Root(Compared):
+    """The root of square."""
+
+    def __init__(self, square):
+        super().__init__(0)
+        self.square = square
+
+    def compare(self, fraction):
+        return (self.square > fraction * fraction) - (self.square < fraction * fraction)
 
 
 def to_multiple(r, exact, unit):
@@ -320,7 +340,7 @@ def div(fmt, r, x, y):
         flag = BY_ZERO if is_finite(fmt, x) else 0
         return [step(fmt, MUL, r, edge, a)[0], step(fmt, MUL, r, edge, b)[0], flag]
     if is_finite(fmt, x) and is_finite(fmt, y):
-        norm = fmt.value(c) ** 2 + fmt.value(d) ** 2
+        norm = norm_of(fmt, y)
         re, re_flags = part_of(fmt, r, [(0, a, c), (0, b, d)], norm)
         im, im_flags = part_of(fmt, r, [(0, b, c), (1, a, d)], norm)
         return [re, im, re_flags | im_flags | came(fmt, (a, b, c, d))]
@@ -385,6 +405,36 @@ def one(f, operation, r, x):
     if operation == TIMES_I:
         return [0, fmt.turned(b), a, 0]
     return [0, b, fmt.turned(a), 0]
+
+
+def norm_of(fmt, x):
+    """The exact a a + b b of a finite number."""
+    return fmt.value(x[0]) ** 2 + fmt.value(x[1]) ** 2
+
+
+def real(f, operation, r, x):
+    fmt = BY_NUMBER[f]
+    if is_infinite(fmt, x):
+        return [0, fmt.inf(0), 0]
+    if is_none(fmt, x):
+        return [0, *what_comes(fmt, x)]
+    square = norm_of(fmt, x)
+    if square == 0:
+        return [0, fmt.zero(0), 0]
+    bits, flags = rounded(fmt, r, Root(square) if operation == ABS else Rational(square))
+    return [0, bits, flags | came(fmt, x)]
+
+
+def fused(f, r, x, y, z):
+    fmt = BY_NUMBER[f]
+    (a, b), (c, d), (e, g) = x, y, z
+    if is_finite(fmt, x) and is_finite(fmt, y) and is_finite(fmt, z):
+        re, re_flags = part_of(fmt, r, [(0, a, c), (1, b, d), (0, e, fmt.one(0))])
+        im, im_flags = part_of(fmt, r, [(0, a, d), (0, b, c), (0, g, fmt.one(0))])
+        return [0, re, im, re_flags | im_flags | came(fmt, (a, b, c, d, e, g))]
+    between = two(f, MUL, r, x, y)
+    answer = two(f, ADD, r, between[1:3], z)
+    return answer[:3] + [between[3] | answer[3]]
 
 
 def kinds_of_floats(fmt):

@@ -3,8 +3,8 @@
 import unittest
 from fractions import Fraction
 
-from oncerounded.complexes import one, two
-from tests.oracle import (ADD, BY_NUMBER, CUT, DIV, DOWN, FORMATS, MUL, NEAR, PROJ, ROUNDINGS, SINGLE, SQRT, SUB,
+from oncerounded.complexes import one, real, two
+from tests.oracle import (ABS, ADD, BY_NUMBER, CUT, DIV, DOWN, FORMATS, MUL, NEAR, PROJ, ROUNDINGS, SINGLE, SQRT, SUB,
                           TIMES_MINUS_I, UPWARD)
 
 INF, EMPTY, QUIET = 0x7F800000, 0xFFC00000, 0x7FC00000
@@ -32,6 +32,10 @@ class Examples(unittest.TestCase):
 
     def test_root_of_three_and_four_i(self):
         self.assertEqual(one(1, SQRT, NEAR, single(3, 4)), [0, 0x40000000, 0x3F800000, 0])
+
+    def test_size_of_three_and_four_i(self):
+        for r in ROUNDINGS:
+            self.assertEqual(real(1, ABS, r, single(3, 4)), [0, 0x40A00000, 0])
 
     def test_infinite_product(self):
         for r in ROUNDINGS:
@@ -77,6 +81,12 @@ class WrongWouldBe(unittest.TestCase):
                 for r in ROUNDINGS:
                     self.assertEqual(two(f, DIV, r, [bits, bits], [bits, bits]),
                                      [0, fmt.one(0), fmt.zero(1 if r == DOWN else 0), 0])
+
+    def test_abs_by_squares_that_overflow(self):
+        for f in FORMATS:
+            fmt = BY_NUMBER[f]
+            for r in ROUNDINGS:
+                self.assertEqual(real(f, ABS, r, [fmt.largest(1), 0]), [0, fmt.largest(0), 0])
 
     def test_root_by_the_difference(self):
         # m - a is 0 in doubles, yet im is b / 2 within its last digit.

@@ -6,60 +6,96 @@ import io
 import itertools
 import unittest
 
-from oncerounded.complexes import one, two
+from oncerounded.complexes import fused, one, real, two
 from tests.oracle import BY_NUMBER, FORMATS, ROUNDINGS, kinds_of_floats
 
 HIGHEST = 18446744073709551615
+NUMBER = "a complex number"
+
+# What each call is handed: how many choices there are (0 and on), or a number.
+CALLS = (
+    (two, (3, 4, 4, NUMBER, NUMBER)),
+    (one, (3, 5, 4, NUMBER)),
+    (real, (3, 2, 4, NUMBER)),
+    (fused, (3, 4, NUMBER, NUMBER, NUMBER)),
+)
+
+
+def right_arguments(kinds, f):
+    plain = {NUMBER: [0, 0]}
+    return [f] + [0 if isinstance(kind, int) else list(plain[kind]) for kind in kinds[1:]]
 
 
 class Refusals(unittest.TestCase):
-    def test_formats(self):
-        for f in (3, 4, 16, 64, 999999, 1000000):
-            self.assertEqual(two(f, 0, 0, [0, 0], [0, 0]), [-1])
-            self.assertEqual(one(f, 0, 0, [0, 0]), [-1])
+    def each(self):
+        for call, kinds in CALLS:
+            for f in FORMATS:
+                yield call, kinds, f
 
-    def test_operations(self):
-        for f in FORMATS:
-            for operation in (4, 5, 1000000):
-                self.assertEqual(two(f, operation, 0, [0, 0], [0, 0]), [-1])
-            for operation in (5, 6, 1000000):
-                self.assertEqual(one(f, operation, 0, [0, 0]), [-1])
-            self.assertEqual(one(f, 4, 0, [0, 0])[0], 0)
-            self.assertEqual(two(f, 3, 0, [0, 0], [0, 0])[0], 0)
+    def test_right_ones_are_taken(self):
+        for call, kinds, f in self.each():
+            self.assertEqual(call(*right_arguments(kinds, f))[0], 0)
 
-    def test_roundings(self):
-        for f in FORMATS:
-            for r in (4, 5, 1000000):
-                for operation in range(4):
-                    self.assertEqual(two(f, operation, r, [0, 0], [0, 0]), [-1])
-                for operation in range(5):
-                    self.assertEqual(one(f, operation, r, [0, 0]), [-1])
+    def test_choices_that_are_not(self):
+        for call, kinds, f in self.each():
+            for place, kind in enumerate(kinds):
+                if isinstance(kind, int):
+                    for choice in (kind, kind + 1, 16, 64, 999999, 1000000):
+                        arguments = right_arguments(kinds, f)
+                        arguments[place] = choice
+                        self.assertEqual(call(*arguments), [-1], (call, place, choice))
 
-    def test_bits_of_two(self):
-        for f, limit in ((0, 1 << 16), (1, 1 << 32)):
-            for bits in (limit, limit + 1, HIGHEST):
-                for place in range(4):
-                    parts = [0, 0, 0, 0]
-                    parts[place] = bits
-                    for operation in range(4):
-                        self.assertEqual(two(f, operation, 0, parts[:2], parts[2:]), [-1])
+    def test_choices_that_are(self):
+        for call, kinds, f in self.each():
+            for place, kind in enumerate(kinds):
+                if isinstance(kind, int):
+                    for choice in range(kind):
+                        arguments = right_arguments(kinds, f)
+                        arguments[place] = choice
+                        self.assertEqual(call(*arguments)[0], 0, (call, place, choice))
 
-    def test_bits_of_one(self):
-        for f, limit in ((0, 1 << 16), (1, 1 << 32)):
-            for bits in (limit, limit + 1, HIGHEST):
-                for operation in range(5):
-                    self.assertEqual(one(f, operation, 0, [bits, 0]), [-1])
-                    self.assertEqual(one(f, operation, 0, [0, bits]), [-1])
+    def test_bits_that_are_not_the_formats(self):
+        for call, kinds, f in self.each():
+            limit = 1 << BY_NUMBER[f].width
+            for place, kind in enumerate(kinds):
+                if kind == NUMBER and f < 2:
+                    for part, bits in itertools.product((0, 1), (limit, limit + 1, HIGHEST)):
+                        arguments = right_arguments(kinds, f)
+                        arguments[place][part] = bits
+                        self.assertEqual(call(*arguments), [-1], (call, place, part))
 
     def test_highest_bits_are_taken(self):
-        for f, bits in ((0, 0xFFFF), (1, 0xFFFFFFFF), (2, HIGHEST)):
+        for call, kinds, f in self.each():
+            highest = (1 << BY_NUMBER[f].width) - 1
+            for place, kind in enumerate(kinds):
+                if kind == NUMBER:
+                    for part in (0, 1):
+                        arguments = right_arguments(kinds, f)
+                        arguments[place][part] = highest
+                        self.assertEqual(call(*arguments)[0], 0, (call, place, part))
+        for f in FORMATS:
+            bits = (1 << BY_NUMBER[f].width) - 1
             for operation in range(4):
                 self.assertEqual(two(f, operation, 0, [bits, bits], [bits, bits]), [0, bits, bits, 0])
             self.assertEqual(one(f, 0, 0, [bits, bits]), [0, bits, bits, 0])
+            self.assertEqual(real(f, 0, 0, [bits, bits]), [0, bits, 0])
+            self.assertEqual(fused(f, 0, [bits, 0], [0, 0], [0, bits]), [0, bits, bits, 0])
 
-    def test_several_faults(self):
-        self.assertEqual(two(1000000, 1000000, 1000000, [HIGHEST, 0], [0, HIGHEST]), [-1])
-        self.assertEqual(one(1000000, 1000000, 1000000, [HIGHEST, HIGHEST]), [-1])
+    def test_wrong_in_every_place(self):
+        for call, kinds, f in self.each():
+            arguments = [1000000 if isinstance(kind, int) else [HIGHEST, HIGHEST] for kind in kinds]
+            self.assertEqual(call(*arguments), [-1])
+
+    def test_bits_for_each_operation(self):
+        for call, operations in ((two, 4), (one, 5), (real, 2)):
+            kinds = dict(CALLS)[call]
+            for f, bits in ((0, 1 << 16), (1, 1 << 32)):
+                for operation, r in itertools.product(range(operations), ROUNDINGS):
+                    for part in (0, 1):
+                        arguments = right_arguments(kinds, f)
+                        arguments[1:3] = operation, r
+                        arguments[3][part] = bits
+                        self.assertEqual(call(*arguments), [-1])
 
 
 class NothingElse(unittest.TestCase):
@@ -72,15 +108,20 @@ class NothingElse(unittest.TestCase):
                         yield two, (f, operation, r, [a, b], [c, a])
                     for operation in range(5):
                         yield one, (f, operation, r, [a, c])
+                    for operation in range(2):
+                        yield real, (f, operation, r, [b, c])
+                    yield fused, (f, r, [a, b], [c, a], [b, c])
 
     def test_handed_in_stays(self):
         for call, arguments in self.calls():
             before = copy.deepcopy(arguments)
             call(*arguments)
             self.assertEqual(arguments, before)
-            # The same list may stand in both places.
+
+    def test_the_same_list_in_several_places(self):
         x = [0x3C00, 0x4000]
         self.assertEqual(two(0, 2, 0, x, x), [0, 0xC200, 0x4400, 0])
+        self.assertEqual(fused(0, 0, x, x, x), [0, 0xC000, 0x4600, 0])
         self.assertEqual(x, [0x3C00, 0x4000])
 
     def test_nothing_kept_or_printed(self):
@@ -92,13 +133,14 @@ class NothingElse(unittest.TestCase):
         self.assertEqual(shown.getvalue(), "")
 
     def test_answers_are_lists_of_their_own(self):
+        lengths = {two: 4, one: 4, real: 3, fused: 4}
         for call, arguments in self.calls():
             answer = call(*arguments)
             self.assertIs(type(answer), list)
             self.assertEqual({type(number) for number in answer}, {int})
-            self.assertEqual(len(answer), 4)
+            self.assertEqual(len(answer), lengths[call])
             answer.append(7)
-            self.assertEqual(call(*arguments), answer[:4])
+            self.assertEqual(call(*arguments), answer[:-1])
 
 
 if __name__ == "__main__":
