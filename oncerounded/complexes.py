@@ -2,11 +2,14 @@
 
 from oncerounded.floats import are_bits
 from oncerounded.floats import layout_of
+from oncerounded.floats import loud_flag
+from oncerounded.kinds import same_number
 from oncerounded.products import product
 from oncerounded.quotients import quotient
 from oncerounded.roots import root
 from oncerounded.sizes import size_of
 from oncerounded.sums import added
+from oncerounded.sums import dot_sum
 from oncerounded.sums import fused_sum
 from oncerounded.sums import subtracted
 from oncerounded.turns import conjugate
@@ -15,6 +18,7 @@ from oncerounded.turns import times_i
 from oncerounded.turns import times_minus_i
 
 REFUSED = -1
+MOST_PAIRS = 32
 
 
 def is_known(number, how_many):
@@ -81,3 +85,33 @@ def fused(f, r, x, y, z):
     if not are_bits(layout, x + y + z):
         return [REFUSED]
     return [0] + fused_sum(layout, r, x, y, z)
+
+
+# The factors (x_k, y_k), or the conjugates of x_k and y_k, of four numbers for each pair.
+def factors_of(layout, conj, pairs):
+    factors = []
+    for k in range(0, len(pairs), 4):
+        x = pairs[k:k + 2]
+        y = pairs[k + 2:k + 4]
+        factors.append((conjugate(layout, x)[:2] if conj == 1 else x, y))
+    return factors
+
+
+# z + x_0 y_0 + x_1 y_1 and on, conj 1 with each x_k's conjugate: [0, re, im, flags] or [-1].
+def dot(f, r, conj, z, pairs):
+    if not is_known(f, 3) or not is_known(r, 4) or not is_known(conj, 2):
+        return [REFUSED]
+    layout = layout_of(f)
+    if len(pairs) > 4 * MOST_PAIRS or not are_bits(layout, z + pairs):
+        return [REFUSED]
+    return [0] + dot_sum(layout, r, z, factors_of(layout, conj, pairs))
+
+
+# Whether both parts are equal by value: [0, 1 or 0, flags] or [-1].
+def same(f, x, y):
+    if not is_known(f, 3):
+        return [REFUSED]
+    layout = layout_of(f)
+    if not are_bits(layout, x + y):
+        return [REFUSED]
+    return [0, 1 if same_number(layout, x, y) else 0, loud_flag(layout, x + y)]

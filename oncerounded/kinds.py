@@ -32,3 +32,13 @@ def direction_of(layout, x):
 # Parts that are no numbers become 0 with their signs.
 def no_numbers_as_zeros(layout, x):
     return [with_sign_of(layout, 0, bits) if is_no_number(layout, bits) else bits for bits in x]
+
+
+def same_value(layout, a, b):
+    if is_no_number(layout, a) or is_no_number(layout, b):
+        return False
+    return a == b or (is_zero(layout, a) and is_zero(layout, b))
+
+
+def same_number(layout, x, y):
+    return same_value(layout, x[0], y[0]) and same_value(layout, x[1], y[1])

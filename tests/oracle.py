@@ -437,6 +437,39 @@ def fused(f, r, x, y, z):
     return answer[:3] + [between[3] | answer[3]]
 
 
+def dot(f, r, conj, z, pairs):
+    fmt = BY_NUMBER[f]
+    rows = [list(pairs[k:k + 4]) for k in range(0, len(pairs), 4)]
+    if conj:
+        rows = [[a, fmt.turned(b), c, d] for a, b, c, d in rows]
+    if not rows:
+        return [0, *z, came(fmt, z) if is_finite(fmt, z) else 0]
+    if is_finite(fmt, z) and is_finite(fmt, pairs):
+        re_products, im_products = [(0, z[0], fmt.one(0))], [(0, z[1], fmt.one(0))]
+        for a, b, c, d in rows:
+            re_products += [(0, a, c), (1, b, d)]
+            im_products += [(0, a, d), (0, b, c)]
+        (re, re_flags), (im, im_flags) = part_of(fmt, r, re_products), part_of(fmt, r, im_products)
+        return [0, re, im, re_flags | im_flags | came(fmt, list(z) + list(pairs))]
+    flags = 0
+    for row in rows:
+        told = fused(f, r, row[:2], row[2:], z)
+        z, flags = told[1:3], flags | told[3]
+    return [0, *z, flags]
+
+
+def same(f, x, y):
+    fmt = BY_NUMBER[f]
+    loud = INVALID if "loud" in [fmt.kind(bits) for bits in x + y] else 0
+    if any(fmt.no_number(bits) for bits in x + y):
+        return [0, 0, loud]
+
+    def order(bits):
+        return (fmt.kind(bits) == "infinite") * (-1 if fmt.sign(bits) else 1), fmt.value(bits) * fmt.finite(bits)
+
+    return [0, int([order(bits) for bits in x] == [order(bits) for bits in y]), 0]
+
+
 def kinds_of_floats(fmt):
     """One or two floats of every kind, both signs among them."""
     return (

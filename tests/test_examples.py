@@ -3,7 +3,7 @@
 import unittest
 from fractions import Fraction
 
-from oncerounded.complexes import one, real, two
+from oncerounded.complexes import dot, one, real, two
 from tests.oracle import (ABS, ADD, BY_NUMBER, CUT, DIV, DOWN, FORMATS, MUL, NEAR, PROJ, ROUNDINGS, SINGLE, SQRT, SUB,
                           TIMES_MINUS_I, UPWARD)
 
@@ -109,6 +109,15 @@ class WrongWouldBe(unittest.TestCase):
         largest, third = SINGLE.largest(0), SINGLE.bits(Fraction(1, 8))
         self.assertEqual(two(1, ADD, NEAR, [largest, third], [largest, third])[3], 40)
         self.assertEqual(two(1, ADD, NEAR, [third, largest], [third, largest])[3], 40)
+
+    def test_dot_in_steps(self):
+        # The largest one's square comes and goes; in steps it would stay infinite, or take the 1 with it.
+        for f in FORMATS:
+            fmt = BY_NUMBER[f]
+            great, unity = fmt.largest(0), fmt.one(0)
+            pairs = [great, 0, great, 0, unity, 0, unity, 0, fmt.turned(great), 0, great, 0]
+            for r in ROUNDINGS:
+                self.assertEqual(dot(f, r, 0, [0, 0], pairs)[1::2], [unity, 0])
 
     def test_projection_of_none_and_infinite(self):
         self.assertEqual(one(1, PROJ, NEAR, [QUIET, 0xFF800000]), [0, INF, 0x80000000, 0])

@@ -6,24 +6,27 @@ import io
 import itertools
 import unittest
 
-from oncerounded.complexes import fused, one, real, two
+from oncerounded.complexes import dot, fused, one, real, same, two
 from tests.oracle import BY_NUMBER, FORMATS, ROUNDINGS, kinds_of_floats
 
 HIGHEST = 18446744073709551615
 NUMBER = "a complex number"
+PAIRS = "pairs"
+PLAIN = {NUMBER: [0] * 2, PAIRS: [0] * 8}
 
-# What each call is handed: how many choices there are (0 and on), or a number.
+# What each call is handed: how many choices there are (0 and on), or what stands in PLAIN.
 CALLS = (
     (two, (3, 4, 4, NUMBER, NUMBER)),
     (one, (3, 5, 4, NUMBER)),
     (real, (3, 2, 4, NUMBER)),
     (fused, (3, 4, NUMBER, NUMBER, NUMBER)),
+    (dot, (3, 4, 2, NUMBER, PAIRS)),
+    (same, (3, NUMBER, NUMBER)),
 )
 
 
 def right_arguments(kinds, f):
-    plain = {NUMBER: [0, 0]}
-    return [f] + [0 if isinstance(kind, int) else list(plain[kind]) for kind in kinds[1:]]
+    return [f] + [0 if isinstance(kind, int) else list(PLAIN[kind]) for kind in kinds[1:]]
 
 
 class Refusals(unittest.TestCase):
@@ -58,8 +61,8 @@ class Refusals(unittest.TestCase):
         for call, kinds, f in self.each():
             limit = 1 << BY_NUMBER[f].width
             for place, kind in enumerate(kinds):
-                if kind == NUMBER and f < 2:
-                    for part, bits in itertools.product((0, 1), (limit, limit + 1, HIGHEST)):
+                if kind in (NUMBER, PAIRS) and f < 2:
+                    for part, bits in itertools.product(range(len(PLAIN[kind])), (limit, limit + 1, HIGHEST)):
                         arguments = right_arguments(kinds, f)
                         arguments[place][part] = bits
                         self.assertEqual(call(*arguments), [-1], (call, place, part))
@@ -68,8 +71,8 @@ class Refusals(unittest.TestCase):
         for call, kinds, f in self.each():
             highest = (1 << BY_NUMBER[f].width) - 1
             for place, kind in enumerate(kinds):
-                if kind == NUMBER:
-                    for part in (0, 1):
+                if kind in (NUMBER, PAIRS):
+                    for part in range(len(PLAIN[kind])):
                         arguments = right_arguments(kinds, f)
                         arguments[place][part] = highest
                         self.assertEqual(call(*arguments)[0], 0, (call, place, part))
@@ -83,8 +86,18 @@ class Refusals(unittest.TestCase):
 
     def test_wrong_in_every_place(self):
         for call, kinds, f in self.each():
-            arguments = [1000000 if isinstance(kind, int) else [HIGHEST, HIGHEST] for kind in kinds]
+            arguments = [1000000 if isinstance(kind, int) else [HIGHEST] * len(PLAIN[kind]) for kind in kinds]
             self.assertEqual(call(*arguments), [-1])
+
+    def test_pairs(self):
+        for f, r, conj in itertools.product(FORMATS, ROUNDINGS, (0, 1)):
+            self.assertEqual(dot(f, r, conj, [0, 0], [0] * 4 * 32)[0], 0)
+            for how_many in (33, 34, 50):
+                self.assertEqual(dot(f, r, conj, [0, 0], [0] * 4 * how_many), [-1])
+        for f, place in itertools.product((0, 1), range(4 * 32)):
+            pairs = [0] * 4 * 32
+            pairs[place] = 1 << BY_NUMBER[f].width
+            self.assertEqual(dot(f, 0, 0, [0, 0], pairs), [-1])
 
     def test_bits_for_each_operation(self):
         for call, operations in ((two, 4), (one, 5), (real, 2)):
@@ -111,6 +124,9 @@ class NothingElse(unittest.TestCase):
                     for operation in range(2):
                         yield real, (f, operation, r, [b, c])
                     yield fused, (f, r, [a, b], [c, a], [b, c])
+                    for conj in range(2):
+                        yield dot, (f, r, conj, [b, a], [c, a, b, c, a, a, c, b][:4 * (r % 3)])
+                yield same, (f, [a, b], [a, c])
 
     def test_handed_in_stays(self):
         for call, arguments in self.calls():
@@ -122,7 +138,11 @@ class NothingElse(unittest.TestCase):
         x = [0x3C00, 0x4000]
         self.assertEqual(two(0, 2, 0, x, x), [0, 0xC200, 0x4400, 0])
         self.assertEqual(fused(0, 0, x, x, x), [0, 0xC000, 0x4600, 0])
+        self.assertEqual(same(0, x, x), [0, 1, 0])
         self.assertEqual(x, [0x3C00, 0x4000])
+        x = [0x3C00, 0x4000, 0x3C00, 0x4000]
+        self.assertEqual(dot(0, 0, 1, x[:2], x), [0, 0x4600, 0x4000, 0])
+        self.assertEqual(x, [0x3C00, 0x4000, 0x3C00, 0x4000])
 
     def test_nothing_kept_or_printed(self):
         shown = io.StringIO()
@@ -133,7 +153,7 @@ class NothingElse(unittest.TestCase):
         self.assertEqual(shown.getvalue(), "")
 
     def test_answers_are_lists_of_their_own(self):
-        lengths = {two: 4, one: 4, real: 3, fused: 4}
+        lengths = {two: 4, one: 4, real: 3, fused: 4, dot: 4, same: 3}
         for call, arguments in self.calls():
             answer = call(*arguments)
             self.assertIs(type(answer), list)
