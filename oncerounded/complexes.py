@@ -1,8 +1,10 @@
 """The calls. Each answers one list: 0 and what it tells, or a refusal."""
 
+from oncerounded.changes import changed
 from oncerounded.floats import are_bits
 from oncerounded.floats import layout_of
 from oncerounded.floats import loud_flag
+from oncerounded.kinds import kind_number
 from oncerounded.kinds import same_number
 from oncerounded.products import product
 from oncerounded.quotients import quotient
@@ -115,3 +117,23 @@ def same(f, x, y):
     if not are_bits(layout, x + y):
         return [REFUSED]
     return [0, 1 if same_number(layout, x, y) else 0, loud_flag(layout, x + y)]
+
+
+# x in the format g: [0, re, im, flags] or [-1].
+def change(f, g, r, x):
+    if not is_known(f, 3) or not is_known(g, 3) or not is_known(r, 4):
+        return [REFUSED]
+    layout = layout_of(f)
+    if not are_bits(layout, x):
+        return [REFUSED]
+    return [0] + changed(layout, layout_of(g), r, x)
+
+
+# 0 zero, 1 finite else, 2 infinite, 3 none: [0, that number, 0] or [-1].
+def kind(f, x):
+    if not is_known(f, 3):
+        return [REFUSED]
+    layout = layout_of(f)
+    if not are_bits(layout, x):
+        return [REFUSED]
+    return [0, kind_number(layout, x), 0]

@@ -24,6 +24,15 @@ def zero_number(layout, x):
     return is_zero(layout, x[0]) and is_zero(layout, x[1])
 
 
+# 0 zero, 1 finite else, 2 infinite, 3 none.
+def kind_number(layout, x):
+    if zero_number(layout, x):
+        return 0
+    if finite_number(layout, x):
+        return 1
+    return 2 if infinite_number(layout, x) else 3
+
+
 # Infinite parts become 1, others 0, with their signs.
 def direction_of(layout, x):
     return [with_sign_of(layout, layout.unity if is_infinite(layout, bits) else 0, bits) for bits in x]

@@ -470,6 +470,35 @@ def same(f, x, y):
     return [0, int([order(bits) for bits in x] == [order(bits) for bits in y]), 0]
 
 
+def changed_part(fmt, target, r, bits):
+    sign, exponent, fraction = fmt.fields(bits)
+    kind = fmt.kind(bits)
+    if kind == "zero":
+        return target.zero(sign), 0
+    if kind == "infinite":
+        return target.inf(sign), 0
+    if kind in ("quiet", "loud"):
+        digits = "1" + format(fraction, f"0{fmt.fraction_bits}b")[1:]
+        digits = digits.ljust(target.fraction_bits, "0")[:target.fraction_bits]
+        return target.make(sign, target.all_ones, int(digits, 2)), INVALID if kind == "loud" else 0
+    return rounded(target, r, Rational(fmt.value(bits)))
+
+
+def change(f, g, r, x):
+    fmt = BY_NUMBER[f]
+    (re, re_flags), (im, im_flags) = (changed_part(fmt, BY_NUMBER[g], r, bits) for bits in x)
+    return [0, re, im, re_flags | im_flags | came(fmt, x)]
+
+
+def kind(f, x):
+    fmt = BY_NUMBER[f]
+    if is_infinite(fmt, x):
+        return [0, 2, 0]
+    if is_none(fmt, x):
+        return [0, 3, 0]
+    return [0, 0 if is_zero(fmt, x) else 1, 0]
+
+
 def kinds_of_floats(fmt):
     """One or two floats of every kind, both signs among them."""
     return (

@@ -6,7 +6,7 @@ import io
 import itertools
 import unittest
 
-from oncerounded.complexes import dot, fused, one, real, same, two
+from oncerounded.complexes import change, dot, fused, kind, one, real, same, two
 from tests.oracle import BY_NUMBER, FORMATS, ROUNDINGS, kinds_of_floats
 
 HIGHEST = 18446744073709551615
@@ -22,11 +22,13 @@ CALLS = (
     (fused, (3, 4, NUMBER, NUMBER, NUMBER)),
     (dot, (3, 4, 2, NUMBER, PAIRS)),
     (same, (3, NUMBER, NUMBER)),
+    (change, (3, 3, 4, NUMBER)),
+    (kind, (3, NUMBER)),
 )
 
 
 def right_arguments(kinds, f):
-    return [f] + [0 if isinstance(kind, int) else list(PLAIN[kind]) for kind in kinds[1:]]
+    return [f] + [0 if isinstance(sort, int) else list(PLAIN[sort]) for sort in kinds[1:]]
 
 
 class Refusals(unittest.TestCase):
@@ -41,18 +43,18 @@ class Refusals(unittest.TestCase):
 
     def test_choices_that_are_not(self):
         for call, kinds, f in self.each():
-            for place, kind in enumerate(kinds):
-                if isinstance(kind, int):
-                    for choice in (kind, kind + 1, 16, 64, 999999, 1000000):
+            for place, sort in enumerate(kinds):
+                if isinstance(sort, int):
+                    for choice in (sort, sort + 1, 16, 64, 999999, 1000000):
                         arguments = right_arguments(kinds, f)
                         arguments[place] = choice
                         self.assertEqual(call(*arguments), [-1], (call, place, choice))
 
     def test_choices_that_are(self):
         for call, kinds, f in self.each():
-            for place, kind in enumerate(kinds):
-                if isinstance(kind, int):
-                    for choice in range(kind):
+            for place, sort in enumerate(kinds):
+                if isinstance(sort, int):
+                    for choice in range(sort):
                         arguments = right_arguments(kinds, f)
                         arguments[place] = choice
                         self.assertEqual(call(*arguments)[0], 0, (call, place, choice))
@@ -60,9 +62,9 @@ class Refusals(unittest.TestCase):
     def test_bits_that_are_not_the_formats(self):
         for call, kinds, f in self.each():
             limit = 1 << BY_NUMBER[f].width
-            for place, kind in enumerate(kinds):
-                if kind in (NUMBER, PAIRS) and f < 2:
-                    for part, bits in itertools.product(range(len(PLAIN[kind])), (limit, limit + 1, HIGHEST)):
+            for place, sort in enumerate(kinds):
+                if sort in (NUMBER, PAIRS) and f < 2:
+                    for part, bits in itertools.product(range(len(PLAIN[sort])), (limit, limit + 1, HIGHEST)):
                         arguments = right_arguments(kinds, f)
                         arguments[place][part] = bits
                         self.assertEqual(call(*arguments), [-1], (call, place, part))
@@ -70,9 +72,9 @@ class Refusals(unittest.TestCase):
     def test_highest_bits_are_taken(self):
         for call, kinds, f in self.each():
             highest = (1 << BY_NUMBER[f].width) - 1
-            for place, kind in enumerate(kinds):
-                if kind in (NUMBER, PAIRS):
-                    for part in range(len(PLAIN[kind])):
+            for place, sort in enumerate(kinds):
+                if sort in (NUMBER, PAIRS):
+                    for part in range(len(PLAIN[sort])):
                         arguments = right_arguments(kinds, f)
                         arguments[place][part] = highest
                         self.assertEqual(call(*arguments)[0], 0, (call, place, part))
@@ -86,7 +88,7 @@ class Refusals(unittest.TestCase):
 
     def test_wrong_in_every_place(self):
         for call, kinds, f in self.each():
-            arguments = [1000000 if isinstance(kind, int) else [HIGHEST] * len(PLAIN[kind]) for kind in kinds]
+            arguments = [1000000 if isinstance(sort, int) else [HIGHEST] * len(PLAIN[sort]) for sort in kinds]
             self.assertEqual(call(*arguments), [-1])
 
     def test_pairs(self):
@@ -98,6 +100,15 @@ class Refusals(unittest.TestCase):
             pairs = [0] * 4 * 32
             pairs[place] = 1 << BY_NUMBER[f].width
             self.assertEqual(dot(f, 0, 0, [0, 0], pairs), [-1])
+
+    def test_bits_of_the_format_that_is_left(self):
+        # What the other format's bits could be doesn't count.
+        for g, r in itertools.product(FORMATS, ROUNDINGS):
+            for f, bits in ((0, 1 << 16), (1, 1 << 32)):
+                self.assertEqual(change(f, g, r, [bits, 0]), [-1])
+                self.assertEqual(change(f, g, r, [0, bits]), [-1])
+                self.assertEqual(change(f, g, r, [bits - 1, 0])[0], 0)
+            self.assertEqual(change(2, g, r, [HIGHEST, HIGHEST])[0], 0)
 
     def test_bits_for_each_operation(self):
         for call, operations in ((two, 4), (one, 5), (real, 2)):
@@ -126,7 +137,10 @@ class NothingElse(unittest.TestCase):
                     yield fused, (f, r, [a, b], [c, a], [b, c])
                     for conj in range(2):
                         yield dot, (f, r, conj, [b, a], [c, a, b, c, a, a, c, b][:4 * (r % 3)])
+                    for g in FORMATS:
+                        yield change, (f, g, r, [c, b])
                 yield same, (f, [a, b], [a, c])
+                yield kind, (f, [b, a])
 
     def test_handed_in_stays(self):
         for call, arguments in self.calls():
@@ -153,7 +167,7 @@ class NothingElse(unittest.TestCase):
         self.assertEqual(shown.getvalue(), "")
 
     def test_answers_are_lists_of_their_own(self):
-        lengths = {two: 4, one: 4, real: 3, fused: 4, dot: 4, same: 3}
+        lengths = {two: 4, one: 4, real: 3, fused: 4, dot: 4, same: 3, change: 4, kind: 3}
         for call, arguments in self.calls():
             answer = call(*arguments)
             self.assertIs(type(answer), list)
