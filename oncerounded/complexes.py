@@ -8,6 +8,9 @@ from oncerounded.kinds import kind_number
 from oncerounded.kinds import same_number
 from oncerounded.products import product
 from oncerounded.quotients import quotient
+from oncerounded.reading import Cursor
+from oncerounded.reading import NoSuchText
+from oncerounded.reading import read_number
 from oncerounded.roots import root
 from oncerounded.sizes import size_of
 from oncerounded.sums import added
@@ -18,9 +21,12 @@ from oncerounded.turns import conjugate
 from oncerounded.turns import projection
 from oncerounded.turns import times_i
 from oncerounded.turns import times_minus_i
+from oncerounded.writing import written
 
 REFUSED = -1
+NO_TEXT = -2
 MOST_PAIRS = 32
+MOST_OCTETS = 256
 
 
 def is_known(number, how_many):
@@ -137,3 +143,24 @@ def kind(f, x):
     if not are_bits(layout, x):
         return [REFUSED]
     return [0, kind_number(layout, x), 0]
+
+
+# form 0 short texts, 1 those of sixteens: [0, bytes] or [-1].
+def text(f, form, x):
+    if not is_known(f, 3) or not is_known(form, 2):
+        return [REFUSED]
+    layout = layout_of(f)
+    if not are_bits(layout, x):
+        return [REFUSED]
+    return [0] + [ord(mark) for mark in written(layout, form, x)]
+
+
+# [0, re, im, flags], [-1], or [-2, how many bytes some right text begins with].
+def read(f, r, octets):
+    if not is_known(f, 3) or not is_known(r, 4) or len(octets) > MOST_OCTETS:
+        return [REFUSED]
+    cursor = Cursor(octets)
+    try:
+        return [0] + read_number(layout_of(f), r, cursor)
+    except NoSuchText:
+        return [NO_TEXT, cursor.place]

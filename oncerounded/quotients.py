@@ -11,28 +11,13 @@ from oncerounded.kinds import direction_of
 from oncerounded.kinds import finite_number
 from oncerounded.kinds import none_number
 from oncerounded.kinds import zero_number
-from oncerounded.rounding import exact_zero
-from oncerounded.rounding import rounded
-from oncerounded.rounding import stand_in
+from oncerounded.rounding import rounded_quotient
 from oncerounded.rounding import told
 from oncerounded.steps import difference_of_products
 from oncerounded.steps import invalid
 from oncerounded.steps import sum_of_products
 from oncerounded.steps import times_without_flags
 from oncerounded.steps import what_comes
-
-
-# The sum of the terms by the value below, which is above 0.
-def rounded_quotient(layout, r, terms, below):
-    above = total_of(terms)
-    if above.size == 0:
-        return exact_zero(layout, r, terms)
-    missing = layout.digits + 2 + below.size.bit_length() - above.size.bit_length()
-    shift = max(missing, 0)
-    widened = above.size << shift
-    is_whole = widened % below.size == 0
-    power = above.power - shift - below.power
-    return rounded(layout, r, stand_in(above.sign, widened // below.size, power, is_whole))
 
 
 def finite_quotient(layout, r, x, y):

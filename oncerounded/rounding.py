@@ -112,3 +112,16 @@ def rounded_total(layout, r, terms):
     if total.size == 0:
         return exact_zero(layout, r, terms)
     return rounded(layout, r, total)
+
+
+# The sum of the terms by the value below, which is above 0.
+def rounded_quotient(layout, r, terms, below):
+    above = total_of(terms)
+    if above.size == 0:
+        return exact_zero(layout, r, terms)
+    missing = layout.digits + 2 + below.size.bit_length() - above.size.bit_length()
+    shift = max(missing, 0)
+    widened = above.size << shift
+    is_whole = widened % below.size == 0
+    power = above.power - shift - below.power
+    return rounded(layout, r, stand_in(above.sign, widened // below.size, power, is_whole))

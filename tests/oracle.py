@@ -5,6 +5,7 @@ comparing fractions with it.
 """
 
 import functools
+import re as patterns
 from fractions import Fraction
 
 NEAR, DOWN, UPWARD, CUT = range(4)
@@ -497,6 +498,118 @@ def kind(f, x):
     if is_none(fmt, x):
         return [0, 3, 0]
     return [0, 0 if is_zero(fmt, x) else 1, 0]
+
+
+def power_of_ten(exponent):
+    return Fraction(10 ** exponent) if exponent >= 0 else Fraction(1, 10 ** -exponent)
+
+
+def what_reads_as(fmt, bits):
+    """The values that near makes this float of, above 0: from, to, and whether these two are among them."""
+    value, below = fmt.value(bits), fmt.value(bits - 1)
+    above = power_of_two(fmt.emax + 1) if bits == fmt.largest(0) else fmt.value(bits + 1)
+    return (value + below) / 2, (value + above) / 2, bits % 2 == 0
+
+
+def tens_scale(size):
+    """e with 10^e at most the size and the size below 10^(e + 1)."""
+    e = len(str(size.numerator)) - len(str(size.denominator))
+    return e if power_of_ten(e) <= size else e - 1
+
+
+def shortest(fmt, bits):
+    """All digits and exponents of the fewest digits that read as a float above 0, nearest first."""
+    low, high, closed = what_reads_as(fmt, bits)
+    value, fitting, how_many = fmt.value(bits), [], 0
+    while not fitting:
+        how_many += 1
+        for exponent in range(tens_scale(low) - how_many + 1, tens_scale(high) - how_many + 2):
+            unit = power_of_ten(exponent)
+            first = max(-(-low // unit), 10 ** (how_many - 1))
+            for number in range(first, min(high // unit, 10 ** how_many - 1) + 1):
+                inside = low < number * unit < high or (closed and number * unit in (low, high))
+                if inside and (how_many == 1 or number % 10):
+                    fitting.append((abs(number * unit - value), number % 2, str(number), exponent))
+    return sorted(fitting)
+
+
+def short_text(fmt, bits):
+    if fmt.kind(bits) == "zero":
+        return "0e0"
+    distance, odd, digits, exponent = shortest(fmt, bits)[0]
+    return digits[0] + ("." + digits[1:] if digits[1:] else "") + "e" + str(exponent + len(digits) - 1)
+
+
+def text_of_sixteens(fmt, bits):
+    if fmt.kind(bits) == "zero":
+        return "0x0p0"
+    size = fmt.value(bits)
+    e = scale(size)
+    digits, rest = "", size / power_of_two(e) - 1
+    while rest:
+        digit = int(16 * rest)
+        digits, rest = digits + format(digit, "x"), 16 * rest - digit
+    return "0x1" + ("." + digits if digits else "") + "p" + str(e)
+
+
+def float_text(fmt, form, bits):
+    """Without its sign."""
+    kind_of = fmt.kind(bits)
+    if kind_of in ("quiet", "loud"):
+        return kind_of
+    if kind_of == "infinite":
+        return "inf"
+    sizes = bits & ~fmt.zero(1)
+    return text_of_sixteens(fmt, sizes) if form else short_text(fmt, sizes)
+
+
+def text(f, form, x):
+    fmt = BY_NUMBER[f]
+    signs = "-" if fmt.sign(x[0]) else "", "-" if fmt.sign(x[1]) else "+"
+    both = signs[0] + float_text(fmt, form, x[0]) + signs[1] + float_text(fmt, form, x[1]) + "i"
+    return [0, *both.encode()]
+
+
+TENS = rb"([0-9]+)(?:[.]([0-9]+))?(?:e(-?[0-9]{1,5}))?"
+SIXTEENS = rb"0x([0-9a-f]+)(?:[.]([0-9a-f]+))?(?:p(-?[0-9]{1,5}))?"
+FLOAT = rb"inf|" + SIXTEENS + rb"|" + TENS
+NUMBER = patterns.compile(rb"(-?)(" + FLOAT + rb")([+-])(" + FLOAT + rb")i")
+# Behind whatever some text begins with, one of these makes it whole.
+ENDINGS = (b"", b"i", b"fi", b"nfi", b"0i", b"+0i", b"f+0i", b"nf+0i", b"0+0i")
+
+
+def is_begun(octets):
+    return any(NUMBER.fullmatch(octets + ending) for ending in ENDINGS)
+
+
+def fault(octets):
+    return max(n for n in range(len(octets) + 1) if is_begun(octets[:n]))
+
+
+def read_float(fmt, r, sign, octets):
+    if octets == b"inf":
+        return fmt.inf(sign), 0
+    in_tens = patterns.fullmatch(TENS, octets)
+    before, behind, exponent = (in_tens or patterns.fullmatch(SIXTEENS, octets)).groups()
+    number = int(before + (behind or b""), 10 if in_tens else 16)
+    places = len(behind or b"")
+    if in_tens:
+        value = number * power_of_ten(int(exponent or 0) - places)
+    else:
+        value = number * power_of_two(int(exponent or 0) - 4 * places)
+    if value == 0:
+        return fmt.zero(sign), 0
+    return rounded(fmt, r, Rational(-value if sign else value))
+
+
+def read(f, r, octets):
+    fmt, octets = BY_NUMBER[f], bytes(octets)
+    found = NUMBER.fullmatch(octets)
+    if not found:
+        return [-2, fault(octets)]
+    re, re_flags = read_float(fmt, r, int(found[1] == b"-"), found[2])
+    im, im_flags = read_float(fmt, r, int(found[9] == b"-"), found[10])
+    return [0, re, im, re_flags | im_flags]
 
 
 def kinds_of_floats(fmt):

@@ -3,7 +3,7 @@
 import unittest
 from fractions import Fraction
 
-from oncerounded.complexes import dot, one, real, two
+from oncerounded.complexes import dot, one, read, real, text, two
 from tests.oracle import (ABS, ADD, BY_NUMBER, CUT, DIV, DOWN, FORMATS, MUL, NEAR, PROJ, ROUNDINGS, SINGLE, SQRT, SUB,
                           TIMES_MINUS_I, UPWARD)
 
@@ -40,6 +40,11 @@ class Examples(unittest.TestCase):
     def test_infinite_product(self):
         for r in ROUNDINGS:
             self.assertEqual(two(1, MUL, r, [INF, QUIET], single(1, 1)), [0, INF, INF, 0])
+
+    def test_text(self):
+        x = [SINGLE.bits(Fraction(3, 2)), SINGLE.bits(-2)]
+        self.assertEqual(text(1, 0, x), [0, *b"1.5e0-2e0i"])
+        self.assertEqual(read(1, NEAR, list(b"1.5e0-2e0i")), [0, *x, 0])
 
     def test_one_by_zero(self):
         for r in ROUNDINGS:
@@ -121,6 +126,11 @@ class WrongWouldBe(unittest.TestCase):
 
     def test_projection_of_none_and_infinite(self):
         self.assertEqual(one(1, PROJ, NEAR, [QUIET, 0xFF800000]), [0, INF, 0x80000000, 0])
+
+    def test_the_imaginary_parts_sign_twice(self):
+        self.assertEqual(text(1, 0, single(1, -2)), [0, *b"1e0-2e0i"])
+        self.assertEqual(text(1, 1, [0, 0x80000000]), [0, *b"0x0p0-0x0p0i"])
+        self.assertEqual(read(1, NEAR, list(b"1+-2i")), [-2, 2])
 
     def test_times_minus_i_by_a_product(self):
         # A product would make -0 of both parts, or tell flags of the loud one.

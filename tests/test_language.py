@@ -10,6 +10,8 @@ PACKAGE = pathlib.Path(__file__).resolve().parent.parent / "oncerounded"
 
 OWN_NAMES = set("""len range enumerate zip min max sum abs sorted reversed int str bool list tuple dict set frozenset
 isinstance ord repr any all divmod""".split())
+ERRORS = set("""Exception ValueError TypeError KeyError IndexError LookupError ZeroDivisionError ArithmeticError
+OverflowError RuntimeError NotImplementedError AttributeError StopIteration""".split())
 METHODS = set("""append clear copy count endswith extend find get index insert isalnum isalpha isdigit islower isspace
 isupper items join keys ljust lower lstrip partition pop remove replace reverse rfind rjust rpartition rsplit rstrip
 setdefault split splitlines startswith strip update upper values zfill bit_length""".split())
@@ -119,13 +121,34 @@ class Form(unittest.TestCase):
             top |= {alias.name for node in tree.body if isinstance(node, ast.ImportFrom) for alias in node.names}
             for node in ast.walk(tree):
                 if isinstance(node, ast.Name) and node.id in builtin_names():
-                    self.assertIn(node.id, OWN_NAMES, (path, node.lineno, "L8"))
+                    self.assertIn(node.id, OWN_NAMES | ERRORS, (path, node.lineno, "L8"))
                     self.assertIsInstance(node.ctx, ast.Load, (path, node.lineno, "L8"))
                 stored = isinstance(node, ast.Name) and isinstance(node.ctx, ast.Store)
                 name = node.id if stored else node.arg if isinstance(node, ast.arg) else None
                 if name is not None:
                     self.assertNotIn(name, top | builtin_names(), (path, node.lineno, "L15"))
                     self.assertRegex(name, r"^[A-Za-z][A-Za-z0-9_]*$", "L12")
+
+    def test_errors(self):
+        own = {node.name for path, tree in self.trees() for node in tree.body
+               if isinstance(node, ast.ClassDef) and node.bases}
+        for path, tree in self.trees():
+            for node in ast.walk(tree):
+                if isinstance(node, ast.ClassDef) and node.bases:
+                    self.assertEqual(len(node.bases), 1, (path, node.lineno, "L5"))
+                    self.assertIn(node.bases[0].id, (own | ERRORS) - {"StopIteration", "AttributeError"}, "L18")
+                if isinstance(node, ast.ExceptHandler):
+                    self.assertIn(node.type.id, own, (path, node.lineno, "L19"))
+                if isinstance(node, ast.Raise):
+                    self.assertIn(node.exc.func.id, own, (path, node.lineno, "L19"))
+                if isinstance(node, ast.Try):
+                    self.assertEqual(node.finalbody, [], (path, node.lineno, "L6"))
+
+    def test_texts(self):
+        for path, tree in self.trees():
+            for node in ast.walk(tree):
+                if isinstance(node, ast.Constant) and isinstance(node.value, str):
+                    self.assertNotIn("%", node.value, (path, node.lineno, "L27"))
 
     def test_methods(self):
         own = {node.attr for path, tree in self.trees() for node in ast.walk(tree)

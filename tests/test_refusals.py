@@ -6,13 +6,14 @@ import io
 import itertools
 import unittest
 
-from oncerounded.complexes import change, dot, fused, kind, one, real, same, two
+from oncerounded.complexes import change, dot, fused, kind, one, read, real, same, text, two
 from tests.oracle import BY_NUMBER, FORMATS, ROUNDINGS, kinds_of_floats
 
 HIGHEST = 18446744073709551615
 NUMBER = "a complex number"
 PAIRS = "pairs"
-PLAIN = {NUMBER: [0] * 2, PAIRS: [0] * 8}
+OCTETS = "bytes"
+PLAIN = {NUMBER: [0] * 2, PAIRS: [0] * 8, OCTETS: list(b"1+2i")}
 
 # What each call is handed: how many choices there are (0 and on), or what stands in PLAIN.
 CALLS = (
@@ -24,6 +25,8 @@ CALLS = (
     (same, (3, NUMBER, NUMBER)),
     (change, (3, 3, 4, NUMBER)),
     (kind, (3, NUMBER)),
+    (text, (3, 2, NUMBER)),
+    (read, (3, 4, OCTETS)),
 )
 
 
@@ -101,6 +104,20 @@ class Refusals(unittest.TestCase):
             pairs[place] = 1 << BY_NUMBER[f].width
             self.assertEqual(dot(f, 0, 0, [0, 0], pairs), [-1])
 
+    def test_length_of_a_text(self):
+        for f, r in itertools.product(FORMATS, ROUNDINGS):
+            whole = b"1+" + b"0" * 253 + b"i"
+            self.assertEqual(read(f, r, list(whole))[0], 0)
+            for octets in (b"0" + whole, whole + b"i", b"0" * 44 + whole, b"x" * 257, b"\xff" * 300):
+                self.assertEqual(read(f, r, list(octets)), [-1])
+
+    def test_the_refusal_told_first(self):
+        # -1 before -2, whatever the text is.
+        for octets in ([], list(b"x"), list(b"1+2i"), [255] * 300):
+            for f, r in ((3, 0), (0, 4), (1000000, 1000000)):
+                self.assertEqual(read(f, r, octets), [-1])
+        self.assertEqual(read(2, 3, [255] * 256), [-2, 0])
+
     def test_bits_of_the_format_that_is_left(self):
         # What the other format's bits could be doesn't count.
         for g, r in itertools.product(FORMATS, ROUNDINGS):
@@ -141,6 +158,11 @@ class NothingElse(unittest.TestCase):
                         yield change, (f, g, r, [c, b])
                 yield same, (f, [a, b], [a, c])
                 yield kind, (f, [b, a])
+                for form in range(2):
+                    yield text, (f, form, [c, a])
+            for octets in (b"1+2i", b"-0.1-0x1.8p-9i", b"inf+1e99999i", b"1+", b"", b"x" * 257):
+                for r in ROUNDINGS:
+                    yield read, (f, r, list(octets))
 
     def test_handed_in_stays(self):
         for call, arguments in self.calls():
@@ -172,7 +194,8 @@ class NothingElse(unittest.TestCase):
             answer = call(*arguments)
             self.assertIs(type(answer), list)
             self.assertEqual({type(number) for number in answer}, {int})
-            self.assertEqual(len(answer), lengths[call])
+            if call in lengths:
+                self.assertEqual(len(answer), lengths[call])
             answer.append(7)
             self.assertEqual(call(*arguments), answer[:-1])
 
